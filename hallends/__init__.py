@@ -1,0 +1,1 @@
+"""Taflhall: endings. The calls are answered by hallends.desk.answers."""
