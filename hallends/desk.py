@@ -2,8 +2,9 @@
 
 from hallends.endings import Ending
 from hallends.lines import line_of, read_line
+from hallends.moves import moves_of, over_by, taken_by
 from hallends.reader import codes_of, text_of
-from hallends.refusals import NoSuchPosition, NothingThere, Refusal, WrongMost
+from hallends.refusals import AlreadyOver, NoSuchPosition, NothingThere, Refusal, WrongMost
 from hallends.rules import read_rules
 
 GREATEST_MOST = 200
@@ -25,12 +26,16 @@ class Feed:
         self.at += 1
         return number
 
-    def take_text(self):
-        """The next row of bytes, which has its length before it, as a text."""
+    def take_row(self):
+        """The next row of numbers, which has its length before it."""
         length = self.take_whole()
-        codes = self.handed[self.at:self.at + length]
+        row = self.handed[self.at:self.at + length]
         self.at += length
-        return text_of(codes)
+        return row
+
+    def take_text(self):
+        """The next row of bytes as a text."""
+        return text_of(self.take_row())
 
 
 class Desk:
@@ -46,25 +51,33 @@ class Desk:
         return [0]
 
     def find_all(self, most, line):
+        self.ending = self.all_that_comes(most, line)
+        return [len(self.ending.positions)]
+
+    def all_that_comes(self, most, line):
+        """All that comes of the line's position, without holding it."""
         if self.hall is None:
             raise NothingThere()
         first = read_line(self.hall, line)
         if most < 1 or most > GREATEST_MOST:
             raise WrongMost()
-        self.ending = Ending(self.hall, first, most)
-        return [len(self.ending.positions)]
+        return Ending(self.hall, first, most)
 
     def held(self):
         if self.ending is None:
             raise NothingThere()
         return self.ending
 
-    def tell_line(self, number):
-        positions = self.held().positions
-        if number >= len(positions):
+    def held_with(self, number):
+        """What is held, if it has a position of this number."""
+        ending = self.held()
+        if number >= len(ending.positions):
             raise NoSuchPosition()
-        codes = codes_of(line_of(self.hall, positions[number]))
-        return [0, len(codes)] + codes
+        return ending
+
+    def tell_line(self, number):
+        position = self.held_with(number).positions[number]
+        return [0] + counted(codes_of(line_of(self.hall, position)))
 
     def tell_number(self, line):
         numbers = self.held().numbers
@@ -74,10 +87,34 @@ class Desk:
         return [numbers[position]]
 
     def tell_value(self, number):
-        worth = self.held().worth
-        if number >= len(worth):
-            raise NoSuchPosition()
-        return [0, worth[number][0], worth[number][1]]
+        value = self.held_with(number).worth[number]
+        return [0, value[0], value[1]]
+
+    def tell_best(self, number):
+        ending = self.held_with(number)
+        position = ending.positions[number]
+        if over_by(self.hall, position) != 0:
+            raise AlreadyOver()
+        choice = ending.best_follow(number)
+        move = moves_of(self.hall, position)[choice]
+        later = ending.follows[number][choice]
+        over = over_by(self.hall, ending.positions[later])
+        return [0, later] + counted([move[0], move[1], over] + taken_by(self.hall, position, move))
+
+    def tell_sums(self):
+        return [0] + counted(self.held().sums())
+
+    def tell_table(self):
+        return [0] + counted(self.held().table())
+
+    def judge(self, most, line, table):
+        right = self.all_that_comes(most, line).table()
+        return [1] if table == right else [0]
+
+
+def counted(row):
+    """A list as it is told: how many numbers it has, then these."""
+    return [len(row)] + row
 
 
 def answers(calls):
@@ -113,4 +150,14 @@ def answer_or_refuse(desk, feed):
         return desk.tell_number(feed.take_text())
     if call == 4:
         return desk.tell_value(feed.take_whole())
-    raise NotImplementedError("this call is not answered yet")
+    if call == 5:
+        return desk.tell_best(feed.take_whole())
+    if call == 6:
+        return desk.tell_sums()
+    if call == 7:
+        return desk.tell_table()
+    if call == 8:
+        most = feed.take_whole()
+        line = feed.take_text()
+        return desk.judge(most, line, feed.take_row())
+    raise ValueError("there is no call with this number")

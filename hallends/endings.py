@@ -1,4 +1,4 @@
-"""Endings: all positions that come of one, and the value of each."""
+"""Endings: all positions that come of one, the value of each, the best moves, and the table."""
 
 from hallends.moves import decided, moves_of, position_after
 from hallends.refusals import TooMany
@@ -34,6 +34,36 @@ class Ending:
                 self.positions.append(later)
             reached.append(self.numbers[later])
         self.follows.append(reached)
+
+    def best_follow(self, number):
+        """Which one of a position's moves is the best, by their order from 0; the position is not over."""
+        who = self.worth[number][0]
+        wanted = (NOBODY, 0) if who == NOBODY else (who, self.worth[number][1] - 1)
+        return [self.worth[later] for later in self.follows[number]].index(wanted)
+
+    def table(self):
+        return [table_entry(value) for value in self.worth]
+
+    def sums(self):
+        """How many are sure for each and for nobody, then of either side the longest and where it is first."""
+        winners = [value[0] for value in self.worth]
+        counts = [winners.count(who) for who in (HUNTERS, KINGS_SIDE, NOBODY)]
+        return counts + longest_for(self.worth, HUNTERS) + longest_for(self.worth, KINGS_SIDE)
+
+
+def table_entry(value):
+    """A value in one number: 0 for nobody's, else 1 + 2 n + who."""
+    if value[0] == NOBODY:
+        return 0
+    return 1 + 2 * value[1] + value[0]
+
+
+def longest_for(worth, who):
+    """The greatest in how many of those that are sure for who, and the first number that has it; 0, 0 of none."""
+    lengths = [value[1] for value in worth if value[0] == who]
+    if not lengths:
+        return [0, 0]
+    return [max(lengths), worth.index((who, max(lengths)))]
 
 
 def values_of(hall, positions, follows):

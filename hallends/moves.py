@@ -1,4 +1,4 @@
-"""Moves: where pieces go, whom they take, and when it is over by the king."""
+"""Moves: where pieces go, whom they take, and when it is over."""
 
 from hallends.hall import NOWHERE
 
@@ -14,6 +14,14 @@ def decided(hall, position):
     if king < 0:
         return 1
     return 2 if hall.is_goal(king) else 0
+
+
+def over_by(hall, position):
+    """1 or 2 as decided tells, else 3 if the side whose turn it is has no move, else 0."""
+    state = decided(hall, position)
+    if state == 0 and not moves_of(hall, position):
+        return 3
+    return state
 
 
 def moves_of(hall, position):
@@ -50,16 +58,27 @@ def ends_along(hall, cells, begin, direction):
 
 def position_after(hall, position, move):
     """The position that a move comes to."""
-    cells = list(position[0])
-    cells[move[1]] = cells[move[0]]
-    cells[move[0]] = "."
+    cells = cells_moved(position, move)
     # All who are taken are found before one of them goes.
-    for cell in taken_by(hall, cells, move[1]):
+    for cell in taken_at(hall, cells, move[1]):
         cells[cell] = "."
     return ("".join(cells), 1 - position[1])
 
 
-def taken_by(hall, cells, end):
+def taken_by(hall, position, move):
+    """The cells, rising, of those whom a move takes."""
+    return sorted(taken_at(hall, cells_moved(position, move), move[1]))
+
+
+def cells_moved(position, move):
+    """The cells with the piece where its move comes to, before any other goes."""
+    cells = list(position[0])
+    cells[move[1]] = cells[move[0]]
+    cells[move[0]] = "."
+    return cells
+
+
+def taken_at(hall, cells, end):
     """The cells of those who are taken when a piece has come to the cell end."""
     mover = cells[end]
     if mover == "K" and hall.armed == 0:

@@ -26,6 +26,13 @@ class NothingThere(Refusal):
         Refusal.__init__(self, [-3])
 
 
+class AlreadyOver(Refusal):
+    """A position that is over has no best move."""
+
+    def __init__(self):
+        Refusal.__init__(self, [-4])
+
+
 class LineAtFault(Refusal):
     def __init__(self, kind, place):
         Refusal.__init__(self, [-5, kind, place])

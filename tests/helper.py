@@ -31,6 +31,14 @@ def world(ground, **said):
     return rules_text(ground, any_start(ground), **said)
 
 
+def put(rows, **signs):
+    """The rows with signs on cells told by name."""
+    rows = [list(row) for row in rows]
+    for name, sign in signs.items():
+        rows[len(rows) - int(name[1:])]["abcdefghijklm".index(name[0])] = sign
+    return ["".join(row) for row in rows]
+
+
 def cell(name):
     return "abcdefghijklm".index(name[0]), int(name[1:]) - 1
 
@@ -93,6 +101,22 @@ def value(number):
     return [4, number]
 
 
+def best(number):
+    return [5, number]
+
+
+def sums():
+    return [6]
+
+
+def table():
+    return [7]
+
+
+def judge(line, told, most=200):
+    return [8, most, len(codes(line)), *codes(line), len(told), *told]
+
+
 def split(told):
     found = []
     at = 0
@@ -112,6 +136,23 @@ def text_told(answer):
     """The text that pos tells."""
     assert answer[0] == 0 and answer[1] == len(answer) - 2, answer
     return "".join(chr(code) for code in answer[2:])
+
+
+def list_told(answer):
+    """The list that sums and table tell."""
+    assert answer[0] == 0 and answer[1] == len(answer) - 2, answer
+    return answer[2:]
+
+
+def name_of(number):
+    return "abcdefghijklm"[number % 13] + str(number // 13 + 1)
+
+
+def best_told(answer):
+    """What best tells: the number of a position, the move's cells by name, over or not, the taken by name."""
+    assert answer[0] == 0 and answer[2] == len(answer) - 3, answer
+    begin, end, over = answer[3:6]
+    return answer[1], name_of(begin), name_of(end), over, " ".join(name_of(number) for number in answer[6:])
 
 
 def ending(text, line):

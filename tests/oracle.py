@@ -65,25 +65,33 @@ class Game:
                 gone.append(at)
         return gone
 
-    def follow(self, position):
+    def moves(self, position):
+        """Each move in order: where it begins, where it comes to, whom it takes, and the position then."""
         pieces, turn = dict(position[0]), position[1]
         if self.over_by_king(pieces):
             return []
-        order = sorted(self.signs, key=lambda c: 13 * c[1] + c[0])
+        order = sorted(self.signs, key=number_of)
         found = []
         for begin in order:
             if pieces.get(begin, ".") in ("h" if turn == "h" else "mK"):
                 for end in order:
                     if self.may_move(pieces, begin, end):
-                        found.append(self.moved(pieces, turn, begin, end))
+                        found.append((begin, end, *self.moved(pieces, turn, begin, end)))
         return found
 
     def moved(self, pieces, turn, begin, end):
         later = dict(pieces)
         later[end] = later.pop(begin)
-        for at in self.taken(later, end):
+        gone = self.taken(later, end)
+        for at in gone:
             later.pop(at)
-        return frozenset(later.items()), "k" if turn == "h" else "h"
+        return gone, (frozenset(later.items()), "k" if turn == "h" else "h")
+
+    def follow(self, position):
+        return [move[3] for move in self.moves(position)]
+
+    def over(self, position):
+        return self.over_by_king(dict(position[0])) or (0 if self.moves(position) else 3)
 
     def all_that_comes(self, position, most):
         """The positions in order and what follows each; None if there are more than most."""
@@ -125,6 +133,18 @@ class Game:
             return mover
         return 1 - mover if all(who == 1 - mover for who in whose) else None
 
+    def best_answer(self, found, values, number):
+        """What the call best answers."""
+        if self.over(found[number]):
+            return [-4]
+        who, count = values[number]
+        for begin, end, gone, later in self.moves(found[number]):
+            value = values[found.index(later)]
+            if value[0] == who and (who == 2 or value[1] == count - 1):
+                move = [number_of(begin), number_of(end), self.over(later), *sorted(number_of(c) for c in gone)]
+                return [0, found.index(later), len(move), *move]
+        raise AssertionError("there is no best move")
+
     def line(self, position):
         pieces = dict(position[0])
         rows = []
@@ -134,6 +154,27 @@ class Game:
                 row = row.replace(" " * length, str(length))
             rows.append(row)
         return "/".join(rows) + " " + position[1]
+
+
+def number_of(cell):
+    return 13 * cell[1] + cell[0]
+
+
+def table_answer(values):
+    """What the call table answers."""
+    return [0, len(values), *[0 if who == 2 else 1 + 2 * count + who for who, count in values]]
+
+
+def sums_answer(values):
+    """What the call sums answers."""
+    told = [sum(value[0] == who for value in values) for who in (0, 1, 2)]
+    for side in (0, 1):
+        greatest, first = 0, 0
+        for number, (who, count) in reversed(list(enumerate(values))):
+            if who == side and count >= greatest:
+                greatest, first = count, number
+        told += [greatest, first]
+    return [0, 7, *told]
 
 
 ENMITY_WORDS = set(ENMITIES)

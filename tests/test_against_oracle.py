@@ -4,39 +4,8 @@ import random
 import unittest
 
 import oracle
-from helper import any_start, ask, ending, find, no, rules, rules_text, world
-
-WORDS = {
-    "king": [f"{a} {b} {c}" for a in ("slides", "steps") for b in ("armed", "bare") for c in ("two", "four")],
-    "seat": [f"{a} {b}" for a in ("passed", "barred") for b in ("quiet", "hunters", "men", "all")],
-    "exits": ["quiet", "hunters", "men", "all"],
-    "goal": ["edge", "exits"],
-}
-
-
-def random_ground(chance):
-    """A ground with many walls, a seat, at least one exit and two plain cells for the start."""
-    while True:
-        wide, high = chance.choice([(5, 5), (5, 6), (7, 5), (6, 6)])
-        cells = chance.choices(".#X", [6, chance.choice([2, 8]), 1], k=wide * high)
-        cells[chance.randrange(wide * high)] = "S"
-        rows = ["".join(cells[wide * r:wide * (r + 1)]) for r in range(high)]
-        inner = "".join(row[1:-1] for row in rows[1:-1])
-        if "X" in cells and "." in inner and cells.count(".") > 3:
-            return rows
-
-
-def random_position(chance, game):
-    plain = [c for c in game.signs if game.signs[c] == "."]
-    chance.shuffle(plain)
-    hunters, men = chance.choice([(1, 0), (2, 0), (1, 1), (2, 1), (3, 0), (3, 1), (4, 2), (5, 1)])
-    signs = ("h" * hunters + "m" * men)[:len(plain)]
-    pieces = dict(zip(plain, signs))
-    free = [c for c in game.signs if game.signs[c] != "#" and c not in pieces]
-    king = [c for c in free if not game.over_by_king({**pieces, c: "K"})] or free
-    if king and chance.random() < 0.97:
-        pieces[chance.choice(king)] = "K"
-    return frozenset(pieces.items()), chance.choice("hk")
+from helper import any_start, ask, best, ending, find, judge, no, rules, rules_text, sums, table, world
+from worlds import random_ground, random_position, random_words, random_worlds
 
 
 class WorldsTest(unittest.TestCase):
@@ -44,12 +13,7 @@ class WorldsTest(unittest.TestCase):
         chance = random.Random(7)
         small = 0
         seen = {0: 0, 1: 0, 2: 0}
-        for _ in range(1000):
-            said = {key: chance.choice(words) for key, words in WORDS.items()}
-            ground = random_ground(chance)
-            game = oracle.Game(ground, **said)
-            position = random_position(chance, game)
-            text = world(ground, **said)
+        for game, text, position in random_worlds(chance, 1000):
             with self.subTest(text=text, line=game.line(position)):
                 found = game.all_that_comes(position, 200)
                 if found is None:
@@ -71,6 +35,44 @@ class WorldsTest(unittest.TestCase):
         self.assertEqual(ask(rules(text), find(line, count - 1))[1], [-9] if count > 1 else [-1])
 
 
+class CallsTest(unittest.TestCase):
+    """best, sums, table and judge on worlds where not too many positions come."""
+
+    def test_best_sums_table_judge(self):
+        chance = random.Random(17)
+        self.seen = {}
+        for game, text, position in random_worlds(chance, 500):
+            found = game.all_that_comes(position, 200)
+            if found is not None:
+                with self.subTest(text=text, line=game.line(position)):
+                    self.compare(game, text, found[0], game.values(*found))
+                    self.judged(chance, text, game.line(position), oracle.table_answer(game.values(*found))[2:])
+        # What a move ends is the mover's.
+        for key in (*[(over, "mover's") for over in (0, 1, 2, 3)], (0, "other's"), (0, "nobody's"), 0, 1):
+            self.assertGreater(self.seen.get(key, 0), 10, key)
+
+    def compare(self, game, text, found, values):
+        asked = ask(rules(text), find(game.line(found[0])), sums(), table(), *[best(i) for i in range(len(found))])
+        self.assertEqual(asked[2], oracle.sums_answer(values))
+        self.assertEqual(asked[3], oracle.table_answer(values))
+        self.assertEqual(asked[4:], [game.best_answer(found, values, i) for i in range(len(found))])
+        for number, answer in enumerate(asked[4:]):
+            if answer[0] == 0:
+                mover = "hk".index(found[number][1])
+                sure = {mover: "mover's", 1 - mover: "other's", 2: "nobody's"}[values[number][0]]
+                for key in ((answer[5], sure), len(answer) - 6):
+                    self.seen[key] = self.seen.get(key, 0) + 1
+
+    def judged(self, chance, text, line, told):
+        at = chance.randrange(len(told))
+        wrong = [told[:at] + [number] + told[at + 1:] for number in (told[at] + 1, told[at] + 2, 2147483647)]
+        wrong += [told[:at] + told[at + 1:], told[:at] + [told[at]] + told[at:], told + [0], [0] + told, [], told * 2]
+        if told[at]:
+            wrong.append(told[:at] + [0] + told[at + 1:])
+        asked = ask(rules(text), *[judge(line, each) for each in [told, *wrong, told]])
+        self.assertEqual(asked, [[0], [1], *[[0]] * len(wrong), [1]])
+
+
 def random_rules_text(chance):
     wide, high = chance.randrange(5, 14), chance.randrange(5, 14)
     ground = [[chance.choice("........#") for _ in range(wide)] for _ in range(high)]
@@ -78,7 +80,7 @@ def random_rules_text(chance):
         ground[chance.randrange(high)][chance.randrange(wide)] = sign
     rows = ["".join(row) for row in ground]
     start = any_start(rows)
-    said = {key: chance.choice(words) for key, words in WORDS.items()}
+    said = random_words(chance)
     said["limit"] = chance.choice(["1", "60000", "59999", "100", "9"])
     said["first"] = chance.choice(["hunters", "king"])
     said["thrice"] = chance.choice(["drawn", "hunters", "king"])
@@ -145,7 +147,8 @@ class TextsTest(unittest.TestCase):
             game = oracle.Game(ground, **said)
             line = game.line(random_position(chance, game))
             if chance.random() < 0.8:
-                line = displaced(chance, line) if chance.random() < 0.3 else spoilt(chance, line, "hmKK/ 0123456789k.x\n")
+                displace = chance.random() < 0.3
+                line = displaced(chance, line) if displace else spoilt(chance, line, "hmKK/ 0123456789k.x\n")
             with self.subTest(ground=ground, line=line):
                 fault = oracle.line_answer(line, ground)
                 told = ask(rules(world(ground, **said)), find(line, 0), no(line))

@@ -2,7 +2,8 @@
 
 import unittest
 
-from helper import ending, spot, world
+from halls import CROSS, LANE, WALLS
+from helper import ending, put, spot, world
 
 # The king in a cell of walls: whatever a hunter does, it's over, as the king's side has no move.
 BOXED = [".......",
@@ -13,16 +14,6 @@ BOXED = [".......",
          "#.#....",
          ".#....."]
 NO_SEAT = [row.replace("S", ".") for row in BOXED]
-# Walls to put lanes into, and an exit for the goal that nobody reaches.
-WALLS = ["######X"] + ["#######"] * 6
-
-
-def put(rows, **signs):
-    """The rows with signs on cells told by name."""
-    rows = [list(row) for row in rows]
-    for name, sign in signs.items():
-        rows[len(rows) - int(name[1:])]["abcdefghijklm".index(name[0])] = sign
-    return ["".join(row) for row in rows]
 
 
 class GoingTest(unittest.TestCase):
@@ -123,15 +114,6 @@ class GoingTest(unittest.TestCase):
         wide = ["............."] * 13
         ends = "g1 g2 g3 g4 g5 g6 a7 b7 c7 d7 e7 f7 h7 i7 j7 k7 l7 m7 g8 g9 g10 g11 g12 g13".split()
         self.king(world(wide), "g7", ends, size=(13, 13))
-
-
-# The lane of the tests below. Whoever is on c1 has two moves, c2 and c3, and the second one comes beside b3,
-# behind which is a3. Nobody gets to or from e1, where the king waits, the seat on a1, and the exit on e5.
-LANE = ["####X",
-        "#####",
-        "...##",
-        "##.##",
-        "S#.#."]
 
 
 class LaneTest(unittest.TestCase):
@@ -319,10 +301,6 @@ class FourTest(unittest.TestCase):
         lines = ending(world(FOUR, goal="exits", king="slides armed four"),
                        spot(7, 7, "h", h="d1 d3 c4 e4 d5", k="d4"))[0]
         self.assertEqual(lines[1], spot(7, 7, "k", h="d2 d3 c4 e4 d5", k="d4"))
-
-
-# The only move is d3-d4, beside c4, e4 and d5, behind which are b4, f4 and d6.
-CROSS = put(WALLS, d3=".", d4=".", b4=".", c4=".", e4=".", f4=".", d5=".", d6=".", g1=".")
 
 
 class SeveralTest(unittest.TestCase):
